@@ -11,6 +11,13 @@ def volume(kilograms, air, density):
     return kilograms * 10000 * (100 + air) // density
 
 
+def kilograms_for(litres, air, density):
+    """The fewest kilograms that have so many litres, or more, with so many hundredths of air."""
+    # The 10,000 of volume and the 1,000 millilitres of a litre leave the 10.
+    divisor = 10 * (100 + air)
+    return (litres * density + divisor - 1) // divisor
+
+
 def weighs_too_much(millilitres, grams, density):
     """Whether a cup weighs more than as many millilitres of mix without air."""
     return 1000 * grams > millilitres * density

@@ -1,8 +1,8 @@
 """The calls: each takes the works and its numbers, and gives back the list of numbers that it answers."""
 
-from freezersoverrun.amounts import cup_air, cup_grams, how_cold, weighs_too_much
+from freezersoverrun.amounts import cup_air, cup_grams, how_cold, kilograms_for, volume, weighs_too_much
 from freezersoverrun.barrel import weight
-from freezersoverrun.works import Freezer
+from freezersoverrun.works import FLAVOURS, Freezer, kilograms_out, millilitres_out
 
 NONE_SUCH = -2
 NOT_FED = -6
@@ -16,11 +16,12 @@ CANNOT_BE = -33
 BEGIN = 0
 
 MOST_FREEZERS = 4
-MOST_FLAVOUR = 9
 MOST_RATE = 100
 MOST_AIR = 200
 MOST_COLD = 500
 MOST_MINUTES = 500
+MOST_AHEAD = 1000
+MOST_AMOUNT = 100000
 
 
 def begin(works, numbers):
@@ -48,7 +49,7 @@ def run(works, numbers):
     flavour = numbers[1]
     rate = numbers[2]
     air = numbers[3]
-    if flavour > MOST_FLAVOUR or not 1 <= rate <= MOST_RATE or air > MOST_AIR:
+    if flavour >= FLAVOURS or not 1 <= rate <= MOST_RATE or air > MOST_AIR:
         return [OUT_OF_RANGE]
     if freezer.frozen:
         return [FROZEN_IN]
@@ -81,8 +82,11 @@ def minutes(works, numbers):
     how_many = numbers[0]
     if not 1 <= how_many <= MOST_MINUTES:
         return [OUT_OF_RANGE]
-    came = works.pass_minutes(how_many)
-    return [works.minute, came[0], came[1]]
+    kilograms = kilograms_out(works.freezers)
+    millilitres = millilitres_out(works.freezers)
+    works.minute += how_many
+    works.let_pass(works.freezers, how_many)
+    return [works.minute, kilograms_out(works.freezers) - kilograms, millilitres_out(works.freezers) - millilitres]
 
 
 def cup(works, numbers):
@@ -133,7 +137,93 @@ def cold(works, numbers):
     return [tenths, 1 if tenths > works.coldest else 0]
 
 
-# The calls by their numbers; those from 11 on are still to come.
+def flushed(works, numbers):
+    freezer = works.freezers[numbers[0]]
+    if freezer.fed_with == 0:
+        return [NOT_FED]
+    twin = freezer.twin()
+    for minute in range(MOST_AHEAD + 1):
+        if twin.has_nothing_else():
+            return [minute]
+        twin.pass_minute(works.density, works.coldest)
+    return [CANNOT_BE]
+
+
+def until(works, numbers):
+    freezer = works.freezers[numbers[0]]
+    flavour = numbers[1]
+    litres = numbers[2]
+    if flavour >= FLAVOURS or litres > MOST_AMOUNT:
+        return [OUT_OF_RANGE]
+    twin = freezer.twin()
+    for minute in range(MOST_AHEAD + 1):
+        if twin.millilitres[flavour] >= 1000 * litres:
+            return [minute]
+        twin.pass_minute(works.density, works.coldest)
+    return [CANNOT_BE]
+
+
+def ahead(works, numbers):
+    how_many = numbers[0]
+    if not 1 <= how_many <= MOST_MINUTES:
+        return [OUT_OF_RANGE]
+    twins = [freezer.twin() for freezer in works.freezers]
+    works.let_pass(twins, how_many)
+    frozen = [twin for twin in twins if twin.frozen]
+    return [kilograms_out(twins), millilitres_out(twins), len(frozen)]
+
+
+def made(works, numbers):
+    flavour = numbers[0]
+    if flavour >= FLAVOURS:
+        return [OUT_OF_RANGE]
+    kilograms = sum([freezer.kilograms[flavour] for freezer in works.freezers])
+    millilitres = sum([freezer.millilitres[flavour] for freezer in works.freezers])
+    return [kilograms, millilitres]
+
+
+def yielded(works, numbers):
+    kilograms = numbers[0]
+    air = numbers[1]
+    if kilograms > MOST_AMOUNT or air > MOST_AIR:
+        return [OUT_OF_RANGE]
+    return [volume(kilograms, air, works.density)]
+
+
+def need(works, numbers):
+    litres = numbers[0]
+    air = numbers[1]
+    if litres > MOST_AMOUNT or air > MOST_AIR:
+        return [OUT_OF_RANGE]
+    return [kilograms_for(litres, air, works.density)]
+
+
+def show_barrel(works, numbers):
+    freezer = works.freezers[numbers[0]]
+    answered = [weight(freezer.parts)]
+    for part in freezer.parts:
+        answered.append(part[0])
+        answered.append(part[1])
+    return answered
+
+
+def look(works, numbers):
+    freezer = works.freezers[numbers[0]]
+    frozen = 1 if freezer.frozen else 0
+    return [freezer.fed_with, freezer.rate, freezer.air, frozen, freezer.holds, freezer.power]
+
+
+def sums(works, numbers):
+    fed = sum([freezer.total_fed for freezer in works.freezers])
+    inside = sum([weight(freezer.parts) for freezer in works.freezers])
+    return [0, fed, inside, kilograms_out(works.freezers), millilitres_out(works.freezers)]
+
+
+def state(works, numbers):
+    return [works.minute, len(works.freezers), works.density, works.coldest]
+
+
+# The calls by their numbers.
 CALLS = {
     0: begin,
     1: add_freezer,
@@ -146,12 +236,22 @@ CALLS = {
     8: fastest,
     9: slowest,
     10: cold,
+    11: flushed,
+    12: until,
+    13: ahead,
+    14: made,
+    15: yielded,
+    16: need,
+    17: show_barrel,
+    18: look,
+    19: sums,
+    20: state,
 }
 
-# How many numbers each call takes, by its number, also those still to come: a list is gone through by these.
+# How many numbers each call takes, by its number: a list is gone through by these.
 LENGTHS = (2, 2, 4, 1, 1, 1, 2, 2, 2, 1, 2, 1, 3, 1, 1, 2, 2, 1, 1, 0, 0)
 
-# The calls whose first number is a freezer, also those still to come.
+# The calls whose first number is a freezer.
 ON_A_FREEZER = (2, 3, 4, 8, 9, 10, 11, 12, 17, 18)
 
 
@@ -161,12 +261,10 @@ def numbers_of(call):
 
 
 def answer(works, call, numbers):
-    """What one call answers; nothing at all if it's one that's still to come."""
+    """What one call answers."""
     if call != BEGIN and not works.begun:
         return [NOT_BEGUN]
     if call in ON_A_FREEZER and numbers[0] >= len(works.freezers):
         return [NONE_SUCH]
-    if call not in CALLS:
-        return []
     handler = CALLS[call]
     return handler(works, numbers)

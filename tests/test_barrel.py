@@ -1,4 +1,4 @@
-"""The barrel's parts, and which flavour comes out in a minute: no call shows the flavours yet."""
+"""The barrel's parts, and a freezer's twin, by themselves."""
 
 import unittest
 
@@ -32,30 +32,34 @@ class Barrel(unittest.TestCase):
             self.assertEqual(parts, [(1, 2)])
 
 
-class AMinute(unittest.TestCase):
-    def test_each_part_that_comes_by_its_flavour(self):
-        freezer = Freezer(3, 50)
-        freezer.parts = [(7, 1), (2, 2)]
-        freezer.fed_with = 1
-        freezer.rate = 5
-        freezer.air = 100
-        self.assertEqual(freezer.pass_minute(1200, 100), [(7, 1, 1666), (2, 2, 3333), (0, 2, 3333)])
-        self.assertEqual(freezer.parts, [(0, 3)])
+class Twin(unittest.TestCase):
+    def setUp(self):
+        self.freezer = Freezer(3, 50)
+        self.freezer.parts = [(7, 1), (2, 2)]
+        self.freezer.fed_with = 1
+        self.freezer.rate = 5
+        self.freezer.air = 100
+        self.freezer.pass_minute(1200, 100)
 
-    def test_every_kilogram_fed_is_in_it_or_came_out(self):
-        freezer = Freezer(37, 900)
-        fed = {}
-        came = {}
-        for step in range(300):
-            flavour = step // 3 * 7 % 10
-            freezer.fed_with = flavour + 1
-            freezer.rate = 1 + step * 13 % 40
-            fed[flavour] = fed.get(flavour, 0) + freezer.rate
-            for part in freezer.pass_minute(1000, 10000):
-                came[part[0]] = came.get(part[0], 0) + part[1]
-            self.assertLessEqual(weight(freezer.parts), 37)
-            there = {flavour: sum(part[1] for part in freezer.parts if part[0] == flavour) for flavour in fed}
-            self.assertEqual(fed, {flavour: came.get(flavour, 0) + there[flavour] for flavour in fed})
+    def test_of_a_minute_each_part_is_counted_by_its_flavour(self):
+        self.assertEqual(self.freezer.kilograms, [2, 0, 2, 0, 0, 0, 0, 1, 0, 0])
+        self.assertEqual(self.freezer.millilitres, [3333, 0, 3333, 0, 0, 0, 0, 1666, 0, 0])
+        self.assertEqual((self.freezer.total_fed, self.freezer.parts), (5, [(0, 3)]))
+
+    def test_as_the_freezer_is_but_for_what_came(self):
+        twin = vars(self.freezer.twin())
+        told = vars(self.freezer)
+        counts = ("total_fed", "kilograms", "millilitres")
+        self.assertEqual({name: twin[name] for name in twin if name not in counts},
+                         {name: told[name] for name in told if name not in counts})
+        self.assertEqual([twin[name] for name in counts], [0, [0] * 10, [0] * 10])
+
+    def test_the_freezer_stays_as_it_is(self):
+        told = {name: list(value) if isinstance(value, list) else value for name, value in vars(self.freezer).items()}
+        twin = self.freezer.twin()
+        twin.pass_minute(1200, 100)
+        twin.pass_minute(1200, 1)
+        self.assertEqual(vars(self.freezer), told)
 
 
 if __name__ == "__main__":

@@ -45,6 +45,10 @@ class CupFor(unittest.TestCase):
         # 500 grams in 1,001 millilitres have 100.2 hundredths, which is more, though cup tells 100 of it.
         self.assertEqual(cups(1000, ("cup", 1001, 500), ("cupfor", 1001, 100)), [[100], [501]])
 
+    def test_a_thousandth_of_a_gram_over_takes_one_more(self):
+        self.assertEqual(cups(1001, ("cupfor", 1, 0)), [[2]])
+        self.assertEqual(cups(999, ("cupfor", 999, 0), ("cupfor", 1, 0)), [[999], [1]])
+
     def test_air_of_nought(self):
         self.assertEqual(cups(1000, ("cupfor", 500, 0)), [[500]])
         self.assertEqual(cups(900, ("cupfor", 1, 0), ("cupfor", 10, 0), ("cupfor", 11, 0)), [[1], [9], [10]])

@@ -3,13 +3,15 @@
 import unittest
 
 from freezersoverrun.freezers import answers
-from lines import BEGUN, LATER, LENGTHS, MOST, NAMES, NONE_SUCH, NOT_BEGUN, OUT_OF_RANGE, last, line, play, works
-
-ON_A_FREEZER = ("run", "stop", "thaw", "fastest", "slowest", "cold", "flushed", "until", "barrel", "look")
+from lines import (
+    BEGUN, LENGTHS, MOST, NAMES, NONE_SUCH, NOT_BEGUN, ON_A_FREEZER, OUT_OF_RANGE, last, line, play, works,
+)
 
 LONG_LINE = works((30, 1000), (5, 300)) + [
     ("run", 0, 3, 20, 50), ("run", 1, 4, 7, 100), ("minutes", 9), ("run", 0, 5, 1, 0), ("minutes", 2), ("thaw", 0),
-    ("cup", 1000, 500), ("cupfor", 1000, 100), ("fastest", 1, 3), ("slowest", 1), ("cold", 1, 3), ("stop", 1),
+    ("cup", 1000, 500), ("cupfor", 1000, 100), ("fastest", 1, 3), ("slowest", 1), ("cold", 1, 3), ("run", 0, 5, 20, 0),
+    ("flushed", 0), ("until", 0, 3, 5), ("ahead", 20), ("minutes", 1), ("made", 3), ("yield", 7, 33), ("need", 7, 33),
+    ("barrel", 0), ("look", 0), ("sums",), ("state",), ("stop", 1),
 ]
 
 
@@ -110,14 +112,19 @@ class NothingKept(unittest.TestCase):
         self.assertEqual(answers(handed), kept)
 
 
-class StillToCome(unittest.TestCase):
-    def test_later_calls_change_nothing(self):
-        calls = []
-        for call in LONG_LINE:
-            calls.append(call)
-            calls.extend(with_numbers(name, 1) for name in LATER)
-        step = 1 + len(LATER)
-        self.assertEqual(play(calls)[::step], play(LONG_LINE))
+class EveryCall(unittest.TestCase):
+    # How many numbers an answer has that isn't a refusal, in the calls' order; barrel has two for each part besides.
+    HOW_MANY = (1, 1, 1, 1, 1, 3, 1, 1, 2, 2, 2, 1, 1, 3, 2, 1, 1, 1, 6, 5, 4)
+
+    def test_answers_as_many_numbers_as_told(self):
+        seen = set()
+        for call, answer in zip(LONG_LINE, play(LONG_LINE)):
+            with self.subTest(call=call):
+                parts = 2 if call[0] == "barrel" else 0
+                self.assertEqual(len(answer), self.HOW_MANY[NAMES.index(call[0])] + 2 * parts)
+                self.assertGreaterEqual(min(answer), 0)
+            seen.add(call[0])
+        self.assertEqual(seen, set(NAMES))
 
 
 if __name__ == "__main__":
